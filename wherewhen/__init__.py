@@ -1,0 +1,1 @@
+"""Shapes that move, and what they do at every moment."""

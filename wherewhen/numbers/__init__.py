@@ -1,0 +1,1 @@
+"""Exact numbers: fractions, spells of moments, steps over a stretch."""
