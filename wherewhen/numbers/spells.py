@@ -74,8 +74,6 @@ def spell(begin, end, *, with_begin=True, with_end=True):
     """The spell from begin to end."""
     need_moment(begin)
     need_moment(end)
-    if not isinstance(with_begin, bool) or not isinstance(with_end, bool):
-        raise NoSpell("with_begin and with_end are truths")
     told = (begin, with_begin, end, with_end)
     need_spell(told)
     return told

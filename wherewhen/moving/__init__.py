@@ -1,0 +1,1 @@
+"""Shapes that move: lines, rows, and when rows meet."""

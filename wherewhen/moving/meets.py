@@ -1,0 +1,129 @@
+"""When two rows touch, are within one another, near, or apart, in a spell."""
+
+from wherewhen.errors import NoLine, NoNumber, NoPlace
+from wherewhen.moving.lines import left_of_all, through, whole_line
+from wherewhen.moving.rows import box_numbers, moved_back, moved_points, need_row_with_ring, reach_numbers
+from wherewhen.numbers.fractions import is_whole, lowest
+from wherewhen.numbers.spells import need_spell
+from wherewhen.shapes.places import fences_of_both, is_place, lies_in, shared_place
+from wherewhen.shapes.rings import fences_of, is_direction, turned_about
+
+FARTHEST_NEAR = 10 ** 9
+
+
+def need_two(row, other, spell):
+    """Refuse what are not two rows with rings and a spell."""
+    need_row_with_ring(row)
+    need_row_with_ring(other)
+    need_spell(spell)
+
+
+def is_far(thing):
+    """Tell whether anything is a number that a gap may be at most."""
+    return is_whole(thing) and 0 <= thing <= FARTHEST_NEAR
+
+
+def parting_numbers(row, other, direction):
+    """The least of the second's less the first's reach: a start and a slope, whole numbers."""
+    start, slope = reach_numbers(row, direction)
+    back_start, back_slope = reach_numbers(other, turned_about(direction))
+    return (-back_start - start, -back_slope - slope)
+
+
+def parts_through(row, other, spell, direction):
+    """Tell whether a direction parts two rows through a spell."""
+    start, slope = parting_numbers(row, other, direction)
+    return through((whole_line(start, slope), True), spell)
+
+
+def touching(row, other, spell):
+    """The spell of the moments at which two rows touch, or None."""
+    need_two(row, other, spell)
+    conditions = []
+    for direction in fences_of_both(row[1], other[1]):
+        start, slope = parting_numbers(row, other, direction)
+        conditions.append((whole_line(-start, -slope), False))
+    return left_of_all(conditions, spell)
+
+
+def within(row, other, spell):
+    """The spell of the moments at which the one is within the other, or None."""
+    need_two(row, other, spell)
+    conditions = []
+    for fence in fences_of(other[1]):
+        start, slope = reach_numbers(row, fence)
+        outer_start, outer_slope = reach_numbers(other, fence)
+        conditions.append((whole_line(outer_start - start, outer_slope - slope), False))
+    return left_of_all(conditions, spell)
+
+
+def near(row, other, spell, *, far=0):
+    """The spell of the moments at which the gap of two rows is at most far, or None."""
+    need_two(row, other, spell)
+    if not is_far(far):
+        raise NoNumber(far)
+    conditions = []
+    for one, another in ((row, other), (other, row)):
+        for least, greatest in zip(box_numbers(one)[:2], box_numbers(another)[2:]):
+            line = whole_line(far - least[0] + greatest[0], greatest[1] - least[1])
+            conditions.append((line, False))
+    return left_of_all(conditions, spell)
+
+
+def directions_through(row, other):
+    """Directions one of which parts two rows through, where any does."""
+    found = fences_of_both(row[1], other[1])
+    along = (row[2][0] - other[2][0], row[2][1] - other[2][1])
+    if along != (0, 0):
+        across = (-along[1], along[0])
+        found = found + [across, turned_about(across), along, turned_about(along)]
+    return found
+
+
+def apart(row, other, spell):
+    """A direction that parts two rows through a spell."""
+    need_two(row, other, spell)
+    for direction in directions_through(row, other):
+        if parts_through(row, other, spell, direction):
+            return direction
+    raise NoLine("no direction parts them through")
+
+
+def is_apart(row, other, spell, direction):
+    """Tell whether anything is a direction that parts two rows through a spell."""
+    need_two(row, other, spell)
+    return is_direction(direction) and parts_through(row, other, spell, direction)
+
+
+def spot_at(row, other, moment):
+    """A place that is in both rows' rings at a moment, or None."""
+    place = shared_place(moved_points(row, moment), moved_points(other, moment))
+    if place is None:
+        return None
+    (x_over, x_under), (y_over, y_under) = place
+    return (lowest(x_over, x_under * moment[1]), lowest(y_over, y_under * moment[1]))
+
+
+def spots(row, other, spell):
+    """A place in both rows' rings at the spell's begin, and one at its end."""
+    need_two(row, other, spell)
+    first, last = spot_at(row, other, spell[0]), spot_at(row, other, spell[2])
+    if first is None or last is None:
+        raise NoPlace("they don't touch all through")
+    return (first, last)
+
+
+def stands_in(row, moment, place):
+    """Tell whether a place is in a row's ring at a moment."""
+    return lies_in(row[1], moved_back(row, moment, place))
+
+
+def are_spots(row, other, spell, thing):
+    """Tell whether anything is a place in both at the begin, and one at the end."""
+    need_two(row, other, spell)
+    if not isinstance(thing, tuple) or len(thing) != 2 or not all([is_place(place) for place in thing]):
+        return False
+    for moment, place in ((spell[0], thing[0]), (spell[2], thing[1])):
+        if not stands_in(row, moment, place) or not stands_in(other, moment, place):
+            return False
+    return True

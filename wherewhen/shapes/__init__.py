@@ -1,0 +1,1 @@
+"""Shapes that stand still: rings of corners, and places in them."""
