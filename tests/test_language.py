@@ -20,6 +20,7 @@ BARRED_WORDS = """mro elements open input law version_info with_traceback add_no
 BARRED_NODES = (ast.AsyncFunctionDef, ast.AsyncFor, ast.AsyncWith, ast.Await, ast.Global, ast.Nonlocal, ast.AnnAssign,
                 ast.Div, ast.MatMult, ast.Set, ast.SetComp, ast.Import, ast.Yield, ast.YieldFrom, ast.Try, ast.With,
                 ast.Lambda, ast.NamedExpr, ast.Delete, ast.Match)
+PLAIN_METHODS = ("__init__", "__eq__", "__len__")
 ITERATED_BY = ("list", "tuple", "dict", "sorted", "sum", "any", "all", "enumerate", "zip", "min", "max")
 ON_THE_SPOT = ("zip", "enumerate", "reversed", "range", "map", "product", "combinations")
 
@@ -143,7 +144,7 @@ class LanguageTest(unittest.TestCase):
             self.fail(f"{where}: {type(node).__name__}")
         for where, node in self.nodes(ast.FunctionDef, ast.ClassDef):
             self.assertEqual(node.decorator_list, [], where)
-            self.assertTrue(is_docstring(node.body[0]) or node.name == "__init__", f"{where}: no docstring")
+            self.assertTrue(is_docstring(node.body[0]) or node.name in PLAIN_METHODS, f"{where}: no docstring")
 
     def test_sizes(self):
         for where, node in self.nodes(ast.FunctionDef):

@@ -1,7 +1,9 @@
 """Lines over time, and conditions that they be above 0.
 
-`sign_at`, `through`, `turned_over`, `left_of_all`, `whole_line` are for the
-package itself: they take what was looked at.
+The package itself takes conditions as signs (start, slope, above), whole
+numbers: the worth times some whole number above 0 is start + slope t. So it
+takes them in `through`, `left_of` and `left_of_all`, which look at nothing
+again that was looked at.
 """
 
 from wherewhen.errors import NoLine
@@ -51,24 +53,24 @@ def worth(line, moment):
     return added(start, lowest(slope[0] * moment[0], slope[1] * moment[1]))
 
 
-def sign_at(line, moment):
-    """A whole number, above 0, 0, or below, as the line's worth at a moment is."""
-    start, slope = line
-    return start[0] * slope[1] * moment[1] + slope[0] * moment[0] * start[1]
+def signs_of(condition):
+    """A condition as signs."""
+    ((start, start_under), (slope, slope_under)), above = condition
+    return (start * slope_under, slope * start_under, above)
 
 
 def holds_through(condition, spell):
     """Tell whether a condition holds at each moment of a spell."""
     need_condition(condition)
     need_spell(spell)
-    return through(condition, spell)
+    return through(signs_of(condition), spell)
 
 
-def through(condition, spell):
-    """Tell whether a condition holds through a spell, by the spell's ends alone."""
-    line, above = condition
-    begin, with_begin, end, with_end = spell
-    first, last = sign_at(line, begin), sign_at(line, end)
+def through(signs, spell):
+    """Tell whether signs hold through a spell, by the spell's ends alone."""
+    start, slope, above = signs
+    (begin, begin_under), with_begin, (end, end_under), with_end = spell
+    first, last = start * begin_under + slope * begin, start * end_under + slope * end
     if first < 0 or last < 0:
         return False
     if not above:
@@ -78,38 +80,38 @@ def through(condition, spell):
     return last > 0 or not with_end
 
 
-def turned_over(condition):
-    """The condition that holds just where this one doesn't."""
-    ((start, start_under), (slope, slope_under)), above = condition
-    return (((-start, start_under), (-slope, slope_under)), not above)
+def turned_over(signs):
+    """The signs that hold just where these don't."""
+    start, slope, above = signs
+    return (-start, -slope, not above)
 
 
 def fails_through(condition, spell):
     """Tell whether a condition holds at no moment of a spell."""
     need_condition(condition)
     need_spell(spell)
-    return through(turned_over(condition), spell)
+    return through(turned_over(signs_of(condition)), spell)
 
 
-def left_of(condition, spell):
-    """The spell of the moments at which a condition holds, or None."""
-    if through(condition, spell):
+def left_of(signs, spell):
+    """The spell of the moments at which signs hold, or None."""
+    if through(signs, spell):
         return spell
-    if through(turned_over(condition), spell):
+    if through(turned_over(signs), spell):
         return None
-    # It holds at some moment and fails at another, so the line is 0 at just one moment, not beyond the spell's ends.
-    (start, slope), above = condition
-    zero = lowest(-start[0] * slope[1], start[1] * slope[0])
-    if slope[0] > 0:
+    # They hold at some moment and fail at another, so the line is 0 at just one moment, not beyond the spell's ends.
+    start, slope, above = signs
+    zero = lowest(-start, slope)
+    if slope > 0:
         return between((zero, above), end_edge(spell))
     return between(begin_edge(spell), (zero, not above))
 
 
-def left_of_all(conditions, spell):
-    """The spell of the moments at which all of these conditions hold, or None."""
+def left_of_all(rows, spell):
+    """The spell of the moments at which all of these signs hold, or None."""
     rest = spell
-    for condition in conditions:
-        rest = left_of(condition, rest)
+    for signs in rows:
+        rest = left_of(signs, rest)
         if rest is None:
             return None
     return rest
@@ -119,7 +121,7 @@ def where(conditions, spell):
     """The spell of the moments at which all conditions hold, or None."""
     need_conditions(conditions)
     need_spell(spell)
-    return left_of_all(conditions, spell)
+    return left_of_all([signs_of(condition) for condition in conditions], spell)
 
 
 def parts_of(conditions, spell):
@@ -129,7 +131,7 @@ def parts_of(conditions, spell):
     front, back = [], []
     rest = spell
     for number, condition in enumerate(conditions):
-        held = left_of(condition, rest)
+        held = left_of(signs_of(condition), rest)
         if held is None:
             return tuple([*front, (rest, number), *back])
         # A line is above 0 at one side alone, so a condition takes from the one end of what is left, or the other.

@@ -1,7 +1,7 @@
 """When two rows touch, are within one another, near, or apart, in a spell."""
 
 from wherewhen.errors import NoLine, NoNumber, NoPlace
-from wherewhen.moving.lines import left_of_all, through, whole_line
+from wherewhen.moving.lines import left_of_all, through
 from wherewhen.moving.rows import box_numbers, moved_back, moved_points, need_row_with_ring, reach_numbers
 from wherewhen.numbers.fractions import is_whole, lowest
 from wherewhen.numbers.spells import need_spell
@@ -33,28 +33,51 @@ def parting_numbers(row, other, direction):
 def parts_through(row, other, spell, direction):
     """Tell whether a direction parts two rows through a spell."""
     start, slope = parting_numbers(row, other, direction)
-    return through((whole_line(start, slope), True), spell)
+    return through((start, slope, True), spell)
+
+
+def touch_signs(row, other):
+    """What holds where two rows touch: for each fence of both that it doesn't part them."""
+    found = []
+    for direction in fences_of_both(row[1], other[1]):
+        start, slope = parting_numbers(row, other, direction)
+        found.append((-start, -slope, False))
+    return found
+
+
+def inner_signs(row, other):
+    """What holds where the one is within the other: for each fence of the other that it reaches no farther."""
+    found = []
+    for fence in fences_of(other[1]):
+        start, slope = reach_numbers(row, fence)
+        outer_start, outer_slope = reach_numbers(other, fence)
+        found.append((outer_start - start, outer_slope - slope, False))
+    return found
+
+
+def gap_numbers(row, other):
+    """The five lines of which the gap is the greatest, each as a start and a slope, whole numbers."""
+    left, low, right, high = box_numbers(row)
+    other_left, other_low, other_right, other_high = box_numbers(other)
+    pairs = [(other_left, right), (left, other_right), (other_low, high), (low, other_high)]
+    return [(0, 0)] + [(least[0] - greatest[0], least[1] - greatest[1]) for least, greatest in pairs]
+
+
+def near_signs(row, other, far):
+    """What holds where the gap is at most far: for each of the five lines that it is."""
+    return [(far - start, -slope, False) for start, slope in gap_numbers(row, other)]
 
 
 def touching(row, other, spell):
     """The spell of the moments at which two rows touch, or None."""
     need_two(row, other, spell)
-    conditions = []
-    for direction in fences_of_both(row[1], other[1]):
-        start, slope = parting_numbers(row, other, direction)
-        conditions.append((whole_line(-start, -slope), False))
-    return left_of_all(conditions, spell)
+    return left_of_all(touch_signs(row, other), spell)
 
 
 def within(row, other, spell):
     """The spell of the moments at which the one is within the other, or None."""
     need_two(row, other, spell)
-    conditions = []
-    for fence in fences_of(other[1]):
-        start, slope = reach_numbers(row, fence)
-        outer_start, outer_slope = reach_numbers(other, fence)
-        conditions.append((whole_line(outer_start - start, outer_slope - slope), False))
-    return left_of_all(conditions, spell)
+    return left_of_all(inner_signs(row, other), spell)
 
 
 def near(row, other, spell, *, far=0):
@@ -62,12 +85,7 @@ def near(row, other, spell, *, far=0):
     need_two(row, other, spell)
     if not is_far(far):
         raise NoNumber(far)
-    conditions = []
-    for one, another in ((row, other), (other, row)):
-        for least, greatest in zip(box_numbers(one)[:2], box_numbers(another)[2:]):
-            line = whole_line(far - least[0] + greatest[0], greatest[1] - least[1])
-            conditions.append((line, False))
-    return left_of_all(conditions, spell)
+    return left_of_all(near_signs(row, other, far), spell)
 
 
 def directions_through(row, other):
@@ -107,10 +125,15 @@ def spot_at(row, other, moment):
 def spots(row, other, spell):
     """A place in both rows' rings at the spell's begin, and one at its end."""
     need_two(row, other, spell)
-    first, last = spot_at(row, other, spell[0]), spot_at(row, other, spell[2])
-    if first is None or last is None:
+    found = spots_through(row, other, spell)
+    if None in found:
         raise NoPlace("they don't touch all through")
-    return (first, last)
+    return found
+
+
+def spots_through(row, other, spell):
+    """A place in both rows' rings at the begin of a spell, and one at its end, each perhaps None."""
+    return (spot_at(row, other, spell[0]), spot_at(row, other, spell[2]))
 
 
 def stands_in(row, moment, place):
@@ -121,6 +144,11 @@ def stands_in(row, moment, place):
 def are_spots(row, other, spell, thing):
     """Tell whether anything is a place in both at the begin, and one at the end."""
     need_two(row, other, spell)
+    return are_spots_through(row, other, spell, thing)
+
+
+def are_spots_through(row, other, spell, thing):
+    """Tell whether anything is such a pair of places, of rows and a spell that were looked at."""
     if not isinstance(thing, tuple) or len(thing) != 2 or not all([is_place(place) for place in thing]):
         return False
     for moment, place in ((spell[0], thing[0]), (spell[2], thing[1])):

@@ -38,6 +38,11 @@ def need_row_with_ring(thing):
         raise NoRow("the row is without ring")
 
 
+def still_row(ring):
+    """The row of a ring that stays where it is."""
+    return (0, ring, (0, 0))
+
+
 def moved_points(row, moment):
     """The corners as they stand at a moment, times the moment's under: whole numbers so."""
     start, ring, pace = row

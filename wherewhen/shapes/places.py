@@ -107,6 +107,9 @@ def is_parting(ring, other, direction):
 def is_within(ring, other):
     """Tell whether anything is a ring that the first is within."""
     need_ring(ring)
-    if not is_ring(other):
-        return False
-    return all([lies_in(other, ((corner[0], 1), (corner[1], 1))) for corner in ring])
+    return is_ring(other) and lie_in(other, ring)
+
+
+def lie_in(corners, others):
+    """Tell whether all of the others are places in the hull of corners."""
+    return all([lies_in(corners, ((other[0], 1), (other[1], 1))) for other in others])

@@ -86,8 +86,13 @@ def gap(ring, other):
     """The gap of two rings, by their boxes."""
     need_ring(ring)
     need_ring(other)
-    left, low, right, high = bounds(ring)
-    other_left, other_low, other_right, other_high = bounds(other)
+    return gap_of(ring, other)
+
+
+def gap_of(corners, others):
+    """The gap of two rows of corners that are not looked at again."""
+    left, low, right, high = bounds(corners)
+    other_left, other_low, other_right, other_high = bounds(others)
     return max(0, left - other_right, other_left - right, low - other_high, other_low - high)
 
 

@@ -1,0 +1,1 @@
+"""Questions, and what each is answered at a moment."""

@@ -1,0 +1,1 @@
+"""Books of tellings: which row of a thing stands when."""

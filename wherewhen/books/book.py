@@ -1,0 +1,187 @@
+"""Books: tellings in the order in which they came, and the ways of each thing by them.
+
+`book_of` and `rows_at` are for the package itself: they take what was looked
+at.
+"""
+
+from wherewhen.errors import NoName, NoNumber, NoTelling, TooMany
+from wherewhen.moving.rows import is_row
+from wherewhen.numbers.fractions import is_whole
+from wherewhen.numbers.spells import END, need_moment
+
+DAY = 24
+MOST_TOLD = 100
+MOST_NAMES = 12
+MOST_LETTERS = 8
+LETTERS = "abcdefghijklmnopqrstuvwxyz"
+
+
+def is_name(thing):
+    """Tell whether anything is a name."""
+    if not isinstance(thing, str) or not 1 <= len(thing) <= MOST_LETTERS:
+        return False
+    return all([letter in LETTERS for letter in thing])
+
+
+def need_name(thing):
+    """Refuse what is no name."""
+    if not is_name(thing):
+        raise NoName("no name of one to eight small letters")
+
+
+def is_telling(thing):
+    """Tell whether anything is a telling, by its form."""
+    if not isinstance(thing, tuple):
+        return False
+    if len(thing) == 2:
+        return thing[0] == "back" and is_whole(thing[1]) and thing[1] >= 0
+    return len(thing) == 5 and thing[0] == "row" and is_name(thing[1]) and is_row(thing[2:])
+
+
+def is_told_behind(thing, counting):
+    """Tell whether a thing is a telling behind those of which these rows count."""
+    return is_telling(thing) and (thing[0] == "row" or thing[1] in counting)
+
+
+def take_in(telling, number, counting):
+    """Take one more telling into the rows that count, by their numbers."""
+    if telling[0] == "row":
+        counting[number] = telling
+    else:
+        counting.pop(telling[1])
+
+
+def counting_of(tellings):
+    """The rows that count of tellings, by their numbers, rising."""
+    counting = {}
+    for number, telling in enumerate(tellings):
+        take_in(telling, number, counting)
+    return counting
+
+
+def need_tellings(things):
+    """Refuse what is no tuple or list of tellings, by the number of the first that is none there."""
+    if not isinstance(things, (tuple, list)):
+        raise NoTelling(0)
+    counting = {}
+    for number, thing in enumerate(things):
+        if not is_told_behind(thing, counting):
+            raise NoTelling(number)
+        take_in(thing, number, counting)
+
+
+def need_few(tellings):
+    """Refuse more tellings, or more names, than there may be."""
+    if len(tellings) > MOST_TOLD:
+        raise TooMany("more tellings than a book has")
+    names = {telling[1]: True for telling in tellings if telling[0] == "row"}
+    if len(names) > MOST_NAMES:
+        raise TooMany("more names than a book has")
+
+
+def standing_of(tellings):
+    """For each name with a standing row its standing rows, by their moments."""
+    found = {}
+    for telling in counting_of(tellings).values():
+        # The rows come in the order in which they were told, so the last one of a moment stays.
+        found.setdefault(telling[1], {})[telling[2]] = telling[2:]
+    return found
+
+
+def ways_of(rows):
+    """The ways by standing rows, which go by their moments."""
+    moments = sorted(rows)
+    found = []
+    for begin, end in zip(moments, moments[1:]):
+        found.append((rows[begin], ((begin, 1), True, (end, 1), False)))
+    found.append((rows[moments[-1]], ((moments[-1], 1), True, (END, 1), True)))
+    return tuple(found)
+
+
+def book_of(tellings):
+    """The book of tellings that were looked at, as few as there may be."""
+    book = Book()
+    book._told = tuple(tellings)
+    book._ways = {name: ways_of(rows) for name, rows in standing_of(tellings).items()}
+    return book
+
+
+def row_in(ways, moment):
+    """The row of the way that has a moment, or None ahead of all of them."""
+    found = None
+    for row, _ in ways:
+        if row[0] * moment[1] <= moment[0]:
+            found = row
+    return found
+
+
+def rows_at(book, moment):
+    """Pairs (name, row) of the things that are not nowhere at a moment, names rising."""
+    found = []
+    for name in book.names():
+        row = row_in(book.ways(name), moment)
+        if row is not None and row[1] is not None:
+            found.append((name, row))
+    return found
+
+
+class Book:
+    """Tellings, numbered from 0; a book never changes."""
+
+    def __init__(self, tellings=()):
+        need_tellings(tellings)
+        need_few(tellings)
+        self._told = tuple(tellings)
+        self._ways = {name: ways_of(rows) for name, rows in standing_of(tellings).items()}
+
+    def __eq__(self, other):
+        return isinstance(other, Book) and self._told == other._told
+
+    def __len__(self):
+        return len(self._told)
+
+    def told(self):
+        """All tellings, in order."""
+        return self._told
+
+    def and_told(self, telling):
+        """The book with one more telling."""
+        number = len(self._told)
+        if not is_told_behind(telling, counting_of(self._told)):
+            raise NoTelling(number)
+        tellings = [*self._told, telling]
+        need_few(tellings)
+        return book_of(tellings)
+
+    def as_of(self, number):
+        """The book of the first so many tellings."""
+        if not is_whole(number) or not 0 <= number <= len(self._told):
+            raise NoNumber(number)
+        return book_of(self._told[:number])
+
+    def names(self):
+        """The names with a standing row, rising."""
+        return tuple(sorted(self._ways))
+
+    def ways(self, name):
+        """The ways (row, spell) of a thing, rising."""
+        need_name(name)
+        return self._ways.get(name, ())
+
+    def row_at(self, name, moment):
+        """The standing row of a thing at a moment, or None ahead of its first."""
+        need_name(name)
+        need_moment(moment)
+        return row_in(self._ways.get(name, ()), moment)
+
+    def touched(self, number):
+        """The spell beyond which a telling changes no answer."""
+        if not is_whole(number) or not 0 <= number < len(self._told):
+            raise NoNumber(number)
+        telling = self._told[number]
+        row = self._told[telling[1]] if telling[0] == "back" else telling
+        name, moment = row[1], row[2]
+        for way, spell in self.as_of(number + 1).ways(name):
+            if way[0] > moment:
+                return ((moment, 1), True, spell[0], False)
+        return ((moment, 1), True, (END, 1), True)

@@ -1,0 +1,1 @@
+"""Gaps to a ring, and the order by them."""
