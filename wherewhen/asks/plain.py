@@ -16,7 +16,7 @@ def answer(book, question, moment):
     """What a question is answered at a moment."""
     need_question(question)
     need_moment(moment)
-    things = [(name, moved_points(row, moment)) for name, row in rows_at(book, moment)]
+    things = things_at(book, moment)
     if question[0] == "count":
         return len(in_tile(things, question, moment[1]))
     if question[0] == "meets" or question[0] == "close":
@@ -25,6 +25,11 @@ def answer(book, question, moment):
     if question[0] == "nearest":
         return tuple(by_gap(things, ring)[:question[2]])
     return tuple([name for name, corners in things if is_so(question[0], corners, ring)])
+
+
+def things_at(book, moment):
+    """Pairs (name, corners) of the things that are not nowhere, as they stand at a moment."""
+    return [(name, moved_points(row, moment)) for name, row in rows_at(book, moment)]
 
 
 def in_tile(things, question, under):

@@ -1,13 +1,14 @@
 """Books: tellings in the order in which they came, and the ways of each thing by them.
 
-`book_of` and `rows_at` are for the package itself: they take what was looked
-at.
+`book_of`, `rows_at`, `ways_in`, `rows_through` are for the package itself:
+they take what was looked at.
 """
 
 from wherewhen.errors import NoName, NoNumber, NoTelling, TooMany
 from wherewhen.moving.rows import is_row
 from wherewhen.numbers.fractions import is_whole
-from wherewhen.numbers.spells import END, need_moment
+from wherewhen.numbers.spells import END, begin_edge, between, edge_below, need_moment
+from wherewhen.numbers.steps import cut_pairs, side_by_side
 
 DAY = 24
 MOST_TOLD = 100
@@ -123,6 +124,23 @@ def rows_at(book, moment):
         if row is not None and row[1] is not None:
             found.append((name, row))
     return found
+
+
+def ways_in(book, name, stretch):
+    """The stretch in parts, each with the row of the thing's way, None where it is nowhere."""
+    edge = ((0, 1), False)
+    ways = book.ways(name)
+    pairs = []
+    if edge_below(edge, begin_edge(ways[0][1])):
+        pairs.append((between(edge, begin_edge(ways[0][1])), None))
+    for row, spell in ways:
+        pairs.append((spell, None if row[1] is None else row))
+    return cut_pairs(pairs, stretch)
+
+
+def rows_through(book, stretch):
+    """The stretch in parts, each with such a row of each of the book's names, in one way of each of them."""
+    return side_by_side([ways_in(book, name, stretch) for name in book.names()], stretch)
 
 
 class Book:

@@ -68,6 +68,13 @@ def ring_at(row, moment):
     return tuple([(lowest(x, moment[1]), lowest(y, moment[1])) for x, y in moved_points(row, moment)])
 
 
+def corner_numbers(row, direction, corner):
+    """What a corner of the row counts along a direction, as a start and a slope, whole numbers."""
+    start, _, pace = row
+    slope = counts(direction, pace)
+    return (counts(direction, corner) - slope * start, slope)
+
+
 def reach_numbers(row, direction):
     """The reach along a direction as a start and a slope, whole numbers."""
     start, ring, pace = row

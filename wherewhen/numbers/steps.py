@@ -5,6 +5,11 @@ from wherewhen.numbers.spells import begin_edge, between, edge_below, end_edge
 from wherewhen.numbers.spells import is_inside, is_spell, need_moment, need_spell, overlap
 
 
+def is_table(thing, many):
+    """Tell whether anything is a tuple of tuples with so many things each."""
+    return isinstance(thing, tuple) and all([isinstance(row, tuple) and len(row) == many for row in thing])
+
+
 def are_straight_pairs(things):
     """Tell whether these are pairs, the spell of each straight ahead of the next."""
     for thing in things:
@@ -109,3 +114,24 @@ def laid_over(steps, newer):
     ahead = pairs_between(steps, begin_edge(whole), begin_edge(part))
     behind = pairs_between(steps, end_edge(part), end_edge(whole))
     return put_together([*ahead, *newer, *behind])
+
+
+def side_by_side(tracks, stretch):
+    """The stretch in parts, each with what every track has through it.
+
+    A track is a row of pairs over the stretch, the spell of each straight
+    ahead of the next.
+    """
+    places = [0] * len(tracks)
+    found = []
+    edge, last = begin_edge(stretch), end_edge(stretch)
+    while edge_below(edge, last):
+        held = [track[place] for track, place in zip(tracks, places)]
+        end = last
+        for spell, _ in held:
+            if edge_below(end_edge(spell), end):
+                end = end_edge(spell)
+        found.append((between(edge, end), [thing for _, thing in held]))
+        places = [place + 1 if end_edge(pair[0]) == end else place for place, pair in zip(places, held)]
+        edge = end
+    return found

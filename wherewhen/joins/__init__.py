@@ -1,0 +1,1 @@
+"""Shares of steps, and joins of things that meet."""

@@ -1,0 +1,1 @@
+"""Papers: what a question is answered over a stretch, shown by ends of spells."""
