@@ -209,6 +209,8 @@ class NearestTest(PaperCase):
         for names, marks in [(("b", "a"), ((2,), (("c", 4), ("d", 3)))), (("a",), ((), (("b", 1), ("c", 4), ("d", 3)))),
                              (("a", "c"), ((4,), (("b", 1), ("d", 3)))), (("a", "a"), ((2,), (("b", 1), ("c", 4), ("d", 3)))),
                              (["a", "b"], good[0][2]), (("a", "e"), good[0][2]), (("a", "z"), good[0][2]),
+                             (("a", "e"), ((1,), (("b", 1), ("c", 4), ("d", 3)))),
+                             (("z", "a"), ((2,), (("b", 1), ("c", 4), ("d", 3)))),
                              (("a", ["b"]), good[0][2]), ((), good[0][2]), (("a", "b", "c"), ((1, 4), (("d", 3),)))]:
             self.assertFalse(self.judged(told, question, stretch, ((stretch, names, marks),)), names)
 

@@ -1,15 +1,13 @@
 """Places in rings, and what two rings share or what parts them."""
 
 from wherewhen.numbers.fractions import is_fraction, lowest
-from wherewhen.shapes.rings import counts, fences_of, is_direction, is_ring, least_of, need_ring, reach_of
-from wherewhen.shapes.rings import sides_of, turned_about
+from wherewhen.shapes.rings import bounds, fences_of, is_direction, is_ring, least_of, need_ring, reach_of
+from wherewhen.shapes.rings import sides_of, turned_about, walls_of
 
 
 def is_place(thing):
     """Tell whether anything is a place."""
-    if not isinstance(thing, tuple) or len(thing) != 2:
-        return False
-    return all([is_fraction(number) for number in thing])
+    return isinstance(thing, tuple) and len(thing) == 2 and is_fraction(thing[0]) and is_fraction(thing[1])
 
 
 def is_in(ring, place):
@@ -20,13 +18,22 @@ def is_in(ring, place):
 
 def lies_in(corners, place):
     """Tell whether a place is in the hull of corners, neither looked at again."""
-    (x_over, x_under), (y_over, y_under) = place
-    at = (x_over * y_under, y_over * x_under)
-    under = x_under * y_under
-    for fence in fences_of(corners):
-        if counts(fence, at) > reach_of(corners, fence) * under:
+    (x, x_under), (y, y_under) = place
+    return holds(corners, x * y_under, y * x_under, x_under * y_under)
+
+
+def holds(corners, x, y, under):
+    """Tell whether the place (x / under, y / under) is in the hull of corners."""
+    begin_x, begin_y = corners[-1]
+    for end_x, end_y in corners:
+        if (end_y - begin_y) * (x - begin_x * under) > (end_x - begin_x) * (y - begin_y * under):
             return False
-    return True
+        begin_x, begin_y = end_x, end_y
+    if len(corners) > 2:
+        return True
+    # The place is on the line of two corners: it is between them where it is in their box.
+    left, low, right, high = bounds(corners)
+    return left * under <= x <= right * under and low * under <= y <= high * under
 
 
 def fences_of_both(ones, others):
@@ -40,9 +47,21 @@ def parting(ones, others):
     The fences of both are enough: between them are all sides of the hull of
     what leads from a place of the one to a place of the other.
     """
-    for direction in fences_of_both(ones, others):
-        if parts(ones, others, direction):
-            return direction
+    direction = fence_between(ones, others)
+    if direction is not None:
+        return direction
+    direction = fence_between(others, ones)
+    return None if direction is None else turned_about(direction)
+
+
+def fence_between(ones, others):
+    """The first fence of the ones beyond which all of the others are, or None."""
+    for p, q, most in walls_of(ones):
+        for x, y in others:
+            if p * x + q * y <= most:
+                break
+        else:
+            return (p, q)
     return None
 
 
@@ -53,18 +72,20 @@ def parts(ones, others, direction):
 
 def way_out(side, other):
     """The place where a side goes out over another side, or None."""
-    (begin, end), (other_begin, other_end) = side, other
-    fence = (other_end[1] - other_begin[1], other_begin[0] - other_end[0])
-    turn = counts(fence, end) - counts(fence, begin)
+    (begin_x, begin_y), (end_x, end_y) = side
+    (other_x, other_y), (far_x, far_y) = other
+    across, upward = end_x - begin_x, end_y - begin_y
+    far_across, far_upward = far_x - other_x, far_y - other_y
+    turn = far_upward * across - far_across * upward
     if turn <= 0:
         return None
-    way = counts(fence, other_begin) - counts(fence, begin)
-    x_over = begin[0] * turn + (end[0] - begin[0]) * way
-    y_over = begin[1] * turn + (end[1] - begin[1]) * way
-    place = (lowest(x_over, turn), lowest(y_over, turn))
-    if 0 <= way <= turn and lies_in((other_begin, other_end), place):
-        return place
-    return None
+    # The sides' lines cross where the one has gone way / turn of its length, and the other one beside / turn of its.
+    from_x, from_y = other_x - begin_x, other_y - begin_y
+    way = far_upward * from_x - far_across * from_y
+    beside = upward * from_x - across * from_y
+    if not 0 <= way <= turn or not 0 <= beside <= turn:
+        return None
+    return (lowest(begin_x * turn + across * way, turn), lowest(begin_y * turn + upward * way, turn))
 
 
 def shared_place(ones, others):
@@ -75,10 +96,9 @@ def shared_place(ones, others):
     crosses a hull goes out of it somewhere, so it is enough to look there.
     """
     for corners, hull in ((ones, others), (others, ones)):
-        for corner in corners:
-            place = ((corner[0], 1), (corner[1], 1))
-            if lies_in(hull, place):
-                return place
+        for x, y in corners:
+            if holds(hull, x, y, 1):
+                return ((x, 1), (y, 1))
     for side in sides_of(ones):
         for other in sides_of(others):
             place = way_out(side, other)
@@ -112,4 +132,7 @@ def is_within(ring, other):
 
 def lie_in(corners, others):
     """Tell whether all of the others are places in the hull of corners."""
-    return all([lies_in(corners, ((other[0], 1), (other[1], 1))) for other in others])
+    for x, y in others:
+        if not holds(corners, x, y, 1):
+            return False
+    return True

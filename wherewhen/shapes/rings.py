@@ -8,6 +8,7 @@ from wherewhen.errors import NoDirection, NoPlace, NoRing
 from wherewhen.numbers.fractions import is_whole
 
 FARTHEST = 10 ** 9
+LEAST = -10 ** 9
 MOST_CORNERS = 8
 AXES = ((1, 0), (-1, 0), (0, 1), (0, -1))
 
@@ -19,42 +20,59 @@ def is_pair_up_to(thing, most):
     return all([is_whole(number) and -most <= number <= most for number in thing])
 
 
-def is_corner(thing):
-    """Tell whether anything is a corner."""
-    return is_pair_up_to(thing, FARTHEST)
+def are_corners(things):
+    """Tell whether these are all corners."""
+    # Rings are looked at wherever they are handed in, so this asks of each number without a call.
+    for thing in things:
+        if not isinstance(thing, tuple) or len(thing) != 2:
+            return False
+        x, y = thing
+        if not isinstance(x, int) or not isinstance(y, int) or x is True or x is False or y is True or y is False:
+            return False
+        if not LEAST <= x <= FARTHEST or not LEAST <= y <= FARTHEST:
+            return False
+    return True
 
 
 def is_direction(thing):
     """Tell whether anything is a direction."""
     if not isinstance(thing, tuple) or len(thing) != 2:
         return False
-    return all([is_whole(number) for number in thing]) and thing != (0, 0)
-
-
-def is_left(begin, end, corner):
-    """Tell whether a corner is strictly left of the side from begin to end."""
-    along = (end[0] - begin[0], end[1] - begin[1])
-    return along[0] * (corner[1] - begin[1]) > along[1] * (corner[0] - begin[0])
+    return is_whole(thing[0]) and is_whole(thing[1]) and thing != (0, 0)
 
 
 def turns_left(ring):
-    """Tell whether of each side each other corner is strictly left."""
-    for at in range(len(ring)):
-        begin, end, *others = ring[at:] + ring[:at]
-        if not all([is_left(begin, end, corner) for corner in others]):
+    """Tell whether of each side each other corner is strictly left.
+
+    It is enough that each side turns left from the one ahead of it, and that
+    all of them together go around once: that just one side goes up behind one
+    that doesn't. No turn is so wide that it could leave out all ways up, or
+    all others.
+    """
+    (ahead_x, ahead_y), (x, y) = ring[-2], ring[-1]
+    across, upward = x - ahead_x, y - ahead_y
+    is_up = upward > 0
+    rounds = 0
+    for next_x, next_y in ring:
+        next_across, next_upward = next_x - x, next_y - y
+        if across * next_upward <= upward * next_across:
             return False
-    return True
+        was_up, is_up = is_up, next_upward > 0
+        if is_up and not was_up:
+            rounds += 1
+        x, y, across, upward = next_x, next_y, next_across, next_upward
+    return rounds == 1
 
 
 def is_ring(thing):
     """Tell whether anything is a ring."""
     if not isinstance(thing, tuple) or not 1 <= len(thing) <= MOST_CORNERS:
         return False
-    if not all([is_corner(corner) for corner in thing]):
+    if not are_corners(thing):
         return False
-    if len(thing) == 2:
-        return thing[0] != thing[1]
-    return len(thing) == 1 or turns_left(thing)
+    if len(thing) < 3:
+        return len(thing) == 1 or thing[0] != thing[1]
+    return turns_left(thing)
 
 
 def need_ring(thing):
@@ -77,8 +95,8 @@ def box_of(ring):
 
 def bounds(corners):
     """The box of corners that are not looked at again."""
-    across = [corner[0] for corner in corners]
-    upward = [corner[1] for corner in corners]
+    across = [x for x, _ in corners]
+    upward = [y for _, y in corners]
     return (min(across), min(upward), max(across), max(upward))
 
 
@@ -119,6 +137,20 @@ def fences_of(corners):
     return tuple(found)
 
 
+def walls_of(corners):
+    """The fences of corners as (p, q, most), most the reach along (p, q)."""
+    if len(corners) < 3:
+        return [(p, q, reach_of(corners, (p, q))) for p, q in fences_of(corners)]
+    found = []
+    begin_x, begin_y = corners[0]
+    for end_x, end_y in corners[1:] + corners[:1]:
+        # All other corners are left of the side, so none of them reaches beyond it.
+        p, q = end_y - begin_y, begin_x - end_x
+        found.append((p, q, p * begin_x + q * begin_y))
+        begin_x, begin_y = end_x, end_y
+    return found
+
+
 def counts(direction, corner):
     """What a corner counts along a direction."""
     return direction[0] * corner[0] + direction[1] * corner[1]
@@ -133,12 +165,14 @@ def reach(ring, direction):
 
 def reach_of(corners, direction):
     """The greatest that one of these corners counts along a direction."""
-    return max([counts(direction, corner) for corner in corners])
+    p, q = direction
+    return max([p * x + q * y for x, y in corners])
 
 
 def least_of(corners, direction):
     """The least that one of these corners counts along a direction."""
-    return min([counts(direction, corner) for corner in corners])
+    p, q = direction
+    return min([p * x + q * y for x, y in corners])
 
 
 def turned_about(direction):
@@ -149,14 +183,17 @@ def turned_about(direction):
 def moved(ring, step):
     """The ring, each corner moved by a corner's numbers."""
     need_ring(ring)
-    if not is_corner(step):
+    if not are_corners((step,)):
         raise NoPlace("no corner to move by")
-    told = tuple([(corner[0] + step[0], corner[1] + step[1]) for corner in ring])
-    need_ring(told)
+    across, upward = step
+    told = tuple([(x + across, y + upward) for x, y in ring])
+    # Moved, it turns left as it did; but it may have come too far.
+    if not are_corners(told):
+        raise NoRing("moved beyond the farthest corners")
     return told
 
 
 def turned(ring):
     """The ring, turned by a quarter to the left."""
     need_ring(ring)
-    return tuple([(-corner[1], corner[0]) for corner in ring])
+    return tuple([(-y, x) for x, y in ring])
