@@ -6,7 +6,7 @@ from wherewhen.moving.rows import box_numbers, moved_back, moved_points, need_ro
 from wherewhen.numbers.fractions import is_whole, lowest
 from wherewhen.numbers.spells import need_spell
 from wherewhen.shapes.places import fences_of_both, is_place, lies_in, shared_place
-from wherewhen.shapes.rings import fences_of, is_direction, turned_about
+from wherewhen.shapes.rings import counts, is_direction, least_of, turned_about, walls_of
 
 FARTHEST_NEAR = 10 ** 9
 
@@ -38,20 +38,26 @@ def parts_through(row, other, spell, direction):
 
 def touch_signs(row, other):
     """What holds where two rows touch: for each fence of both that it doesn't part them."""
+    return side_signs(row, other) + side_signs(other, row)
+
+
+def side_signs(row, other):
+    """What holds, for each fence of the row, where some of the other is not beyond it."""
     found = []
-    for direction in fences_of_both(row[1], other[1]):
-        start, slope = parting_numbers(row, other, direction)
-        found.append((-start, -slope, False))
+    for p, q, most in walls_of(row[1]):
+        slope, other_slope = counts((p, q), row[2]), counts((p, q), other[2])
+        start, other_start = most - slope * row[0], least_of(other[1], (p, q)) - other_slope * other[0]
+        found.append((start - other_start, slope - other_slope, False))
     return found
 
 
 def inner_signs(row, other):
     """What holds where the one is within the other: for each fence of the other that it reaches no farther."""
     found = []
-    for fence in fences_of(other[1]):
-        start, slope = reach_numbers(row, fence)
-        outer_start, outer_slope = reach_numbers(other, fence)
-        found.append((outer_start - start, outer_slope - slope, False))
+    for p, q, most in walls_of(other[1]):
+        start, slope = reach_numbers(row, (p, q))
+        outer_slope = counts((p, q), other[2])
+        found.append((most - outer_slope * other[0] - start, outer_slope - slope, False))
     return found
 
 
