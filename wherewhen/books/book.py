@@ -85,7 +85,8 @@ def standing_of(tellings):
     found = {}
     for telling in counting_of(tellings).values():
         # The rows come in the order in which they were told, so the last one of a moment stays.
-        found.setdefault(telling[1], {})[telling[2]] = telling[2:]
+        rows = found.setdefault(telling[1], {})
+        rows[telling[2]] = telling[2:]
     return found
 
 
