@@ -1,0 +1,1 @@
+"""Cuts of all places among houses, and the region of each."""

@@ -1,0 +1,1 @@
+"""Tiles and blocks, and how many things are in them."""
