@@ -22,7 +22,8 @@ STRETCH = of(0, 20)
 # Three in a row: below 0, from 0 on below 10, from 10 on.
 THREE = (0, 0, 0, (0, 10, 1, 2))
 CROSSING = row("a", 2, dot(-3, 0), (1, 0))
-TOLD = [CROSSING, row("b", 0, dot(5, 5)), row("a", 4, None), row("b", 3, dot(50, 5)), ("back", 2), row("c", 1, dot(12, 0), (-1, 0))]
+TOLD = [CROSSING, row("b", 0, dot(5, 5)), row("a", 4, None), row("b", 3, dot(50, 5)), ("back", 2),
+        row("c", 1, dot(12, 0), (-1, 0))]
 
 
 def houses_over(cuts, told, letters=None):

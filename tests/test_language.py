@@ -13,12 +13,13 @@ FREE_BUILTINS = """len range enumerate zip min max sum abs sorted reversed int s
     ArithmeticError OverflowError RuntimeError NotImplementedError AttributeError StopIteration""".split()
 METHODS = """append clear copy count endswith extend find get index insert isalnum isalpha isdigit islower isspace
     isupper items join keys ljust lower lstrip partition pop remove replace reverse rfind rjust rpartition rsplit rstrip
-    setdefault split splitlines startswith strip update upper values zfill bit_length add discard""".split()
+    setdefault split splitlines startswith strip update upper values zfill bit_length removeprefix
+    isascii add discard""".split()
 BARRED_WORDS = """mro elements open input law version_info with_traceback add_note register attrgetter breakpoint
     builtins compile copyright credits delattr dir eval exec exit gc globals help id importlib license locals
     methodcaller os quit setattr super type vars sys""".split()
 BARRED_NODES = (ast.AsyncFunctionDef, ast.AsyncFor, ast.AsyncWith, ast.Await, ast.Global, ast.Nonlocal, ast.AnnAssign,
-                ast.Div, ast.MatMult, ast.Set, ast.SetComp, ast.Import, ast.Yield, ast.YieldFrom, ast.Try, ast.With,
+                ast.Div, ast.MatMult, ast.Set, ast.SetComp, ast.Import, ast.Yield, ast.YieldFrom, ast.With,
                 ast.Lambda, ast.NamedExpr, ast.Delete, ast.Match)
 PLAIN_METHODS = ("__init__", "__eq__", "__len__")
 ITERATED_BY = ("list", "tuple", "dict", "sorted", "sum", "any", "all", "enumerate", "zip", "min", "max")
@@ -196,13 +197,29 @@ class LanguageTest(unittest.TestCase):
                 if isinstance(node, ast.Call) and getattr(node.func, "id", "") in ON_THE_SPOT:
                     holder = above[node]
                     looped = isinstance(holder, (ast.For, ast.comprehension)) and holder.iter is node
-                    called = isinstance(holder, ast.Call) and getattr(holder.func, "id", "") in ITERATED_BY
+                    caller = getattr(holder.func, "id", "") if isinstance(holder, ast.Call) else ""
+                    called = caller in ITERATED_BY or caller == "len" and node.func.id == "range"
                     self.assertTrue(looped or called, f"{path}:{node.lineno}")
 
     def test_raised_on_the_spot(self):
+        again = [node for where, handler in self.nodes(ast.ExceptHandler) for node in ast.walk(handler)]
         for where, node in self.nodes(ast.Raise):
+            if node.exc is None:
+                self.assertIn(node, again, where)
+                continue
             self.assertTrue(isinstance(node.exc, ast.Call) and isinstance(node.exc.func, ast.Name), where)
             self.assertEqual(node.exc.keywords, [], where)
+
+    def test_handlers(self):
+        own = {node.name for where, node in self.nodes(ast.ClassDef)}
+        for where, node in self.nodes(ast.ExceptHandler):
+            self.assertIsNone(node.name, where)
+            for kind in node.type.elts if isinstance(node.type, ast.Tuple) else [node.type]:
+                self.assertIn(kind.id, own, where)
+        for where, node in self.nodes(ast.Try):
+            for row in node.finalbody:
+                plain = isinstance(row, ast.Assign) and isinstance(row.value, (ast.Constant, ast.Name))
+                self.assertTrue(plain, where)
 
 
 if __name__ == "__main__":

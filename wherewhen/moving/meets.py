@@ -2,7 +2,8 @@
 
 from wherewhen.errors import NoLine, NoNumber, NoPlace
 from wherewhen.moving.lines import left_of_all, through
-from wherewhen.moving.rows import box_numbers, moved_back, moved_points, need_row_with_ring, reach_numbers
+from wherewhen.moving.rows import box_numbers, corner_numbers, moved_back, moved_points, need_row_with_ring
+from wherewhen.moving.rows import reach_numbers
 from wherewhen.numbers.fractions import is_whole, lowest
 from wherewhen.numbers.spells import need_spell
 from wherewhen.shapes.places import fences_of_both, is_place, lies_in, shared_place
@@ -72,6 +73,16 @@ def gap_numbers(row, other):
 def near_signs(row, other, far):
     """What holds where the gap is at most far: for each of the five lines that it is."""
     return [(far - start, -slope, False) for start, slope in gap_numbers(row, other)]
+
+
+def corner_signs(row, block):
+    """What holds where the first corner is in a block: not left of it, left of its end, not below, below its end."""
+    found = []
+    for axis, least, beyond in (((1, 0), block[0], block[2]), ((0, 1), block[1], block[3])):
+        start, slope = corner_numbers(row, axis, row[1][0])
+        found.append((start - least, slope, False))
+        found.append((beyond - start, -slope, True))
+    return found
 
 
 def touching(row, other, spell):

@@ -9,8 +9,8 @@ from wherewhen.asks.questions import need_question
 from wherewhen.books.book import rows_through
 from wherewhen.errors import NoSteps
 from wherewhen.moving.lines import through, turned_over
-from wherewhen.moving.meets import are_spots_through, gap_numbers, inner_signs, near_signs, parts_through
-from wherewhen.moving.meets import touch_signs
+from wherewhen.moving.meets import are_spots_through, corner_signs, gap_numbers, inner_signs, near_signs
+from wherewhen.moving.meets import parts_through, touch_signs
 from wherewhen.moving.rows import corner_numbers, reach_numbers, still_row
 from wherewhen.nearest.orders import stands_ahead
 from wherewhen.numbers.fractions import is_whole
@@ -46,12 +46,7 @@ def tile_signs(row, question):
     """What holds where the first corner is in the tile: not left of it, left of its end, not below, below its end."""
     _, level, i, j = question
     side = 1 << level
-    found = []
-    for axis, tile in (((1, 0), i), ((0, 1), j)):
-        start, slope = corner_numbers(row, axis, row[1][0])
-        found.append((start - tile * side, slope, False))
-        found.append(((tile + 1) * side - start, -slope, True))
-    return found
+    return corner_signs(row, (i * side, j * side, (i + 1) * side, (j + 1) * side))
 
 
 def signs_in(question, row, other):

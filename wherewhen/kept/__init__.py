@@ -1,0 +1,1 @@
+"""Questions that are kept, with their answers as they come to be."""

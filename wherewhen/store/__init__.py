@@ -1,0 +1,1 @@
+"""A store: houses and a keeper of the same tellings."""
