@@ -19,7 +19,7 @@ LENGTHS = {"tell": 5, "border": 4, "back": 2, "all": 2, "hear": 3, "cut": 4, "un
 
 def word_of(thing, words):
     """The word of anything that is a deed with one of these words, by its word and length, else NONE."""
-    if not isinstance(thing, tuple) or len(thing) == 0 or not isinstance(thing[0], str):
+    if not isinstance(thing, tuple) or len(thing) == 0:
         return NONE
     word = thing[0]
     return word if word in words and len(thing) == LENGTHS[word] else NONE

@@ -16,14 +16,6 @@ def words_in(text, many):
     return words
 
 
-def halves_of(text, word):
-    """What stands ahead of a word in a text, and what behind it."""
-    ahead, between, behind = text.partition(word)
-    if not between:
-        raise NoText("a row without its word in the middle")
-    return (ahead, behind)
-
-
 def moment_in(text):
     """The moment that is written so."""
     found = fraction_in(text)
@@ -48,7 +40,7 @@ def border_deed(text):
 
 def keep_deed(text):
     """The deed of a question to be kept."""
-    question, spell = halves_of(text.removeprefix("keep "), " over ")
+    question, _, spell = text.removeprefix("keep ").partition(" over ")
     return ("do", ("keep", question_in(question), spell_in(spell)))
 
 
@@ -80,15 +72,15 @@ def ask_request(text):
     """A question to be asked over a spell, or at a moment."""
     rest = text.removeprefix("ask ")
     if " over " in rest:
-        question, spell = halves_of(rest, " over ")
+        question, _, spell = rest.partition(" over ")
         return ("over", question_in(question), spell_in(spell))
-    question, moment = halves_of(rest, " at ")
+    question, _, moment = rest.partition(" at ")
     return ("at", question_in(question), moment_in(moment))
 
 
 def told_request(text):
     """A kept question to be told at a moment."""
-    number, moment = halves_of(text.removeprefix("told "), " at ")
+    number, _, moment = text.removeprefix("told ").partition(" at ")
     return ("told", number_in(number), moment_in(moment))
 
 
