@@ -5,7 +5,7 @@ they take what was looked at.
 """
 
 from wherewhen.errors import NoName, NoNumber, NoTelling, TooMany
-from wherewhen.moving.rows import is_row
+from wherewhen.moving.rows import are_parts_of_row
 from wherewhen.numbers.fractions import is_whole
 from wherewhen.numbers.spells import END, begin_edge, between, edge_below, need_moment
 from wherewhen.numbers.steps import cut_pairs, side_by_side
@@ -14,14 +14,14 @@ DAY = 24
 MOST_TOLD = 100
 MOST_NAMES = 12
 MOST_LETTERS = 8
-LETTERS = "abcdefghijklmnopqrstuvwxyz"
 
 
 def is_name(thing):
     """Tell whether anything is a name."""
-    if not isinstance(thing, str) or not 1 <= len(thing) <= MOST_LETTERS:
+    if not isinstance(thing, str) or len(thing) > MOST_LETTERS:
         return False
-    return all([letter in LETTERS for letter in thing])
+    # Of ASCII signs just the small letters are letters and small.
+    return thing.isascii() and thing.isalpha() and thing.islower()
 
 
 def need_name(thing):
@@ -32,16 +32,27 @@ def need_name(thing):
 
 def is_telling(thing):
     """Tell whether anything is a telling, by its form."""
-    if not isinstance(thing, tuple):
+    return is_row_told(thing, None) or is_back(thing)
+
+
+def is_row_told(thing, known):
+    """Tell whether anything is a telling of a row, known being a ring that was looked at, or None."""
+    if not isinstance(thing, tuple) or len(thing) != 5:
         return False
-    if len(thing) == 2:
-        return thing[0] == "back" and is_whole(thing[1]) and thing[1] >= 0
-    return len(thing) == 5 and thing[0] == "row" and is_name(thing[1]) and is_row(thing[2:])
+    word, name, moment, ring, pace = thing
+    return word == "row" and is_name(name) and are_parts_of_row(moment, ring, pace, known)
 
 
-def is_told_behind(thing, counting):
-    """Tell whether a thing is a telling behind those of which these rows count."""
-    return is_telling(thing) and (thing[0] == "row" or thing[1] in counting)
+def is_back(thing):
+    """Tell whether anything is a telling that takes one back, by its form."""
+    if not isinstance(thing, tuple) or len(thing) != 2:
+        return False
+    return thing[0] == "back" and is_whole(thing[1]) and thing[1] >= 0
+
+
+def is_told_behind(thing, counting, known):
+    """Tell whether anything is a telling behind those of which these rows count."""
+    return is_row_told(thing, known) or is_back(thing) and thing[1] in counting
 
 
 def take_in(telling, number, counting):
@@ -60,60 +71,72 @@ def counting_of(tellings):
     return counting
 
 
-def need_tellings(things):
-    """Refuse what is no tuple or list of tellings, by the number of the first that is none there."""
+def counting_of_anything(things):
+    """The rows that count of anything, by their numbers; refused is what is no tuple or list of tellings."""
     if not isinstance(things, (tuple, list)):
         raise NoTelling(0)
     counting = {}
+    # Many rows have the ring of the row ahead of them, which need not be looked at again as a whole.
+    known = None
     for number, thing in enumerate(things):
-        if not is_told_behind(thing, counting):
+        if not is_told_behind(thing, counting, known):
             raise NoTelling(number)
         take_in(thing, number, counting)
+        if thing[0] == "row":
+            known = thing[3]
+    return counting
 
 
 def need_few(tellings):
     """Refuse more tellings, or more names, than there may be."""
     if len(tellings) > MOST_TOLD:
         raise TooMany("more tellings than a book has")
+    if len(tellings) <= MOST_NAMES:
+        # So few tellings have no more names.
+        return
     names = {telling[1]: True for telling in tellings if telling[0] == "row"}
     if len(names) > MOST_NAMES:
         raise TooMany("more names than a book has")
 
 
-def standing_of(tellings):
-    """For each name with a standing row its standing rows, by their moments."""
+def standing_of(counting):
+    """For each name with a standing row its standing rows, by their moments, of the rows that count."""
     found = {}
-    for telling in counting_of(tellings).values():
+    for _, name, moment, ring, pace in counting.values():
+        if name not in found:
+            found[name] = {}
         # The rows come in the order in which they were told, so the last one of a moment stays.
-        rows = found.setdefault(telling[1], {})
-        rows[telling[2]] = telling[2:]
+        found[name][moment] = (moment, ring, pace)
     return found
 
 
 def ways_of(rows):
     """The ways by standing rows, which go by their moments."""
-    moments = sorted(rows)
     found = []
-    for begin, end in zip(moments, moments[1:]):
-        found.append((rows[begin], ((begin, 1), True, (end, 1), False)))
-    found.append((rows[moments[-1]], ((moments[-1], 1), True, (END, 1), True)))
-    return tuple(found)
+    end, with_end = (END, 1), True
+    for moment in sorted(rows, reverse=True):
+        begin = (moment, 1)
+        found.append((rows[moment], (begin, True, end, with_end)))
+        end, with_end = begin, False
+    return tuple(found[::-1])
 
 
 def book_of(tellings):
     """The book of tellings that were looked at, as few as there may be."""
     book = Book()
     book._told = tuple(tellings)
-    book._ways = {name: ways_of(rows) for name, rows in standing_of(tellings).items()}
+    book._counting = None
     return book
 
 
 def row_in(ways, moment):
     """The row of the way that has a moment, or None ahead of all of them."""
+    over, under = moment
     found = None
     for row, _ in ways:
-        if row[0] * moment[1] <= moment[0]:
-            found = row
+        if row[0] * under > over:
+            break
+        found = row
     return found
 
 
@@ -145,13 +168,18 @@ def rows_through(book, stretch):
 
 
 class Book:
-    """Tellings, numbered from 0; a book never changes."""
+    """Tellings, numbered from 0; a book never changes.
+
+    What is worked out of the tellings is worked out where it is first asked
+    for, and kept.
+    """
 
     def __init__(self, tellings=()):
-        need_tellings(tellings)
+        counting = counting_of_anything(tellings)
         need_few(tellings)
         self._told = tuple(tellings)
-        self._ways = {name: ways_of(rows) for name, rows in standing_of(tellings).items()}
+        self._counting = counting
+        self._ways = None
 
     def __eq__(self, other):
         return isinstance(other, Book) and self._told == other._told
@@ -165,10 +193,9 @@ class Book:
 
     def and_told(self, telling):
         """The book with one more telling."""
-        number = len(self._told)
-        if not is_told_behind(telling, counting_of(self._told)):
-            raise NoTelling(number)
-        tellings = [*self._told, telling]
+        if not is_told_behind(telling, self._rows_that_count(), None):
+            raise NoTelling(len(self._told))
+        tellings = (*self._told, telling)
         need_few(tellings)
         return book_of(tellings)
 
@@ -180,18 +207,24 @@ class Book:
 
     def names(self):
         """The names with a standing row, rising."""
+        if self._ways is None:
+            self._find_ways()
         return tuple(sorted(self._ways))
 
     def ways(self, name):
         """The ways (row, spell) of a thing, rising."""
+        if self._ways is None:
+            self._find_ways()
+        if isinstance(name, str) and name in self._ways:
+            return self._ways[name]
         need_name(name)
-        return self._ways.get(name, ())
+        return ()
 
     def row_at(self, name, moment):
         """The standing row of a thing at a moment, or None ahead of its first."""
-        need_name(name)
+        ways = self.ways(name)
         need_moment(moment)
-        return row_in(self._ways.get(name, ()), moment)
+        return row_in(ways, moment)
 
     def touched(self, number):
         """The spell beyond which a telling changes no answer."""
@@ -204,3 +237,14 @@ class Book:
             if way[0] > moment:
                 return ((moment, 1), True, spell[0], False)
         return ((moment, 1), True, (END, 1), True)
+
+    def _rows_that_count(self):
+        """The rows that count, by their numbers, rising."""
+        if self._counting is None:
+            self._counting = counting_of(self._told)
+        return self._counting
+
+    def _find_ways(self):
+        """Work out the ways of each name with a standing row."""
+        standing = standing_of(self._rows_that_count())
+        self._ways = {name: ways_of(rows) for name, rows in standing.items()}

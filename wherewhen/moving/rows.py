@@ -6,9 +6,9 @@ package itself: they take what was looked at.
 
 from wherewhen.errors import NoRow
 from wherewhen.moving.lines import whole_line
-from wherewhen.numbers.fractions import is_whole, lowest, taken
+from wherewhen.numbers.fractions import lowest, taken
 from wherewhen.numbers.spells import END, need_moment
-from wherewhen.shapes.rings import bounds, counts, is_pair_up_to, is_ring, need_direction, reach_of
+from wherewhen.shapes.rings import are_whole_corners, bounds, counts, is_ring, need_direction, reach_of
 
 FASTEST = 10 ** 6
 
@@ -18,11 +18,24 @@ def is_row(thing):
     if not isinstance(thing, tuple) or len(thing) != 3:
         return False
     moment, ring, pace = thing
-    if not is_whole(moment) or not 0 <= moment <= END or not is_pair_up_to(pace, FASTEST):
+    return are_parts_of_row(moment, ring, pace, None)
+
+
+def are_parts_of_row(moment, ring, pace, known):
+    """Tell whether three things are the moment, the ring and the pace of a row, known being a ring, or None."""
+    # Rows are looked at wherever they are handed in, so this asks of each number without a call.
+    if not isinstance(moment, int) or moment is True or moment is False or not 0 <= moment <= END:
+        return False
+    if not isinstance(pace, tuple) or len(pace) != 2:
+        return False
+    u, v = pace
+    if not isinstance(u, int) or not isinstance(v, int) or u is True or u is False or v is True or v is False:
         return False
     if ring is None:
-        return pace == (0, 0)
-    return is_ring(ring)
+        return u == 0 and v == 0
+    if not -FASTEST <= u <= FASTEST or not -FASTEST <= v <= FASTEST:
+        return False
+    return are_whole_corners(ring) if ring == known else is_ring(ring)
 
 
 def need_row(thing):

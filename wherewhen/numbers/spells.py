@@ -7,15 +7,22 @@ ahead of another just where the edge at its end is the edge at which the other
 begins.
 """
 
+from math import gcd
 from wherewhen.errors import NoMoment, NoSpell
-from wherewhen.numbers.fractions import added, below, is_fraction, lowest
+from wherewhen.numbers.fractions import added, below, lowest
 
 END = 10 ** 6
 
 
 def is_moment(thing):
     """Tell whether anything is a moment."""
-    return is_fraction(thing) and 0 <= thing[0] <= END * thing[1]
+    if not isinstance(thing, tuple) or len(thing) != 2:
+        return False
+    over, under = thing
+    # Moments are looked at wherever they are handed in, so this asks of each number without a call.
+    if not isinstance(over, int) or not isinstance(under, int) or over is True or over is False or under is True:
+        return False
+    return under >= 1 and 0 <= over <= END * under and gcd(over, under) == 1
 
 
 def need_moment(thing):

@@ -13,13 +13,6 @@ MOST_CORNERS = 8
 AXES = ((1, 0), (-1, 0), (0, 1), (0, -1))
 
 
-def is_pair_up_to(thing, most):
-    """Tell whether a thing is a pair of whole numbers from - most to most."""
-    if not isinstance(thing, tuple) or len(thing) != 2:
-        return False
-    return all([is_whole(number) and -most <= number <= most for number in thing])
-
-
 def are_corners(things):
     """Tell whether these are all corners."""
     # Rings are looked at wherever they are handed in, so this asks of each number without a call.
@@ -30,6 +23,14 @@ def are_corners(things):
         if not isinstance(x, int) or not isinstance(y, int) or x is True or x is False or y is True or y is False:
             return False
         if not LEAST <= x <= FARTHEST or not LEAST <= y <= FARTHEST:
+            return False
+    return True
+
+
+def are_whole_corners(things):
+    """Tell whether pairs that are alike a ring's corners are whole numbers: no truths, which are alike 0 and 1."""
+    for x, y in things:
+        if not isinstance(x, int) or not isinstance(y, int) or x is True or x is False or y is True or y is False:
             return False
     return True
 
